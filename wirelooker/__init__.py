@@ -1,0 +1,1 @@
+"""Wirelooker: lines caught on wishes, words read on them, and the lines made again."""
