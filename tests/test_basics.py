@@ -2,7 +2,7 @@
 
 import unittest
 
-from wirelooker.basics import figures, is_name, is_whole, number_of
+from wirelooker.basics import bits_of, figures, is_name, is_whole, number_of, word_of
 
 
 class TestBasics(unittest.TestCase):
@@ -18,6 +18,12 @@ class TestBasics(unittest.TestCase):
         for thing in ("", "abcdefg", "A", "a1", "a b", "a\n", "`", "{", "-", None, 1, True, (), ("a",)):
             self.assertIs(is_name(thing), False)
 
+    def test_word_of(self):
+        for thing in (("a",), ("a", 1), ("a", "b")):
+            self.assertEqual(word_of(thing), "a")
+        for thing in ((), (1, "a"), (("a",),), (None,), "a", "", 1, None, True, ["a"]):
+            self.assertIsNone(word_of(thing))
+
     def test_figures(self):
         for number in (0, 1, 9, 10, 1000000000, 9999999999):
             self.assertEqual(figures(str(number)), number)
@@ -29,6 +35,12 @@ class TestBasics(unittest.TestCase):
         self.assertEqual(number_of([]), 0)
         for number in range(64):
             self.assertEqual(number_of([int(sign) for sign in format(number, "b")]), number)
+
+    def test_bits_of(self):
+        self.assertEqual(bits_of(0, 0), [])
+        for number in range(64):
+            self.assertEqual(bits_of(number, 6), [int(sign) for sign in format(number, "06b")])
+        self.assertEqual(bits_of(5, 16), [0] * 13 + [1, 0, 1])
 
 
 if __name__ == "__main__":

@@ -82,6 +82,32 @@ class TestLanguage(unittest.TestCase):
         for name, node in self.nodes(ast.BinOp):
             self.assertNotIsInstance(node.op, (ast.Div, ast.MatMult), name)
 
+    def test_numbers_alone_are_divided(self):
+        # The package makes bytes, so what stands ahead of the sign of division with a rest must show that it is a number.
+        for name, node in self.nodes(ast.BinOp):
+            self.assertNotIsInstance(node.op, ast.Pow, name)
+            if isinstance(node.op, ast.Mod):
+                self.assertIsInstance(node.left, ast.Call, name)
+                self.assertIn(node.left.func.id, ("sum", "len", "int", "abs", "ord"), name)
+        for path in FOLDER.glob("*.py"):
+            for node in ast.walk(self.trees[path.stem]):
+                if isinstance(node, ast.Constant) and isinstance(node.value, (str, bytes)):
+                    self.assertNotIn("%", str(node.value), path)
+
+    def test_iterated_at_once(self):
+        self.assertEqual(list(self.nodes(ast.GeneratorExp, ast.Yield, ast.YieldFrom, ast.SetComp)), [])
+        kept = ("zip", "enumerate", "reversed", "range", "map")
+        for name, node in self.nodes(ast.Assign, ast.Return):
+            if isinstance(node.value, ast.Call) and isinstance(node.value.func, ast.Name):
+                self.assertNotIn(node.value.func.id, kept, name)
+
+    def test_lengths(self):
+        for name, node in self.nodes(ast.FunctionDef):
+            if node.name == "__len__":
+                (last,) = [part for part in ast.walk(node) if isinstance(part, ast.Return)]
+                self.assertIs(last, node.body[-1])
+                self.assertEqual(last.value.func.id, "len", name)
+
     def test_names(self):
         for name, tree in self.trees.items():
             bound = {node.name for node in ast.walk(tree) if isinstance(node, (ast.FunctionDef, ast.ClassDef))}

@@ -6,7 +6,7 @@ import unittest
 
 from tests.helper import Refusals
 from wirelooker.errors import NoProtocol, NoText
-from wirelooker.protocols import look_protocol, protocol_of, read_protocol, show_protocol
+from wirelooker.protocols import look_protocol, many_words, protocol_of, read_protocol, show_protocol
 
 NAMES = ("c", "d", "g", "x")
 CLOCKED = ("clocked", "c", "rise", "d", "g", 8, "high")
@@ -251,6 +251,8 @@ class TestTexts(Refusals, unittest.TestCase):
         self.assertEqual(protocol_of(["twowire", "c", "d"]), TWOWIRE)
         self.assertIsNone(protocol_of(["twowire", "c"]))
         self.assertIsNone(protocol_of(["calls"]))
+        self.assertIsNone(protocol_of([""]))
+        self.assertEqual([many_words(word) for word in ("clocked", "framed", "twowire", "calls", "", "rise")], [7, 6, 3, 0, 0, 0])
 
 
 if __name__ == "__main__":

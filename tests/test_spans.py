@@ -4,8 +4,8 @@ import random
 import unittest
 
 from tests.helper import BILLION, Refusals, spans_by
-from wirelooker.spans import (both_of, between, either_of, first_of, grouped, grown, how_many, is_in, later, others,
-                              spans_of, worn)
+from wirelooker.spans import (both_of, between, either_of, end_by, first_of, grouped, grown, how_many, is_in, last_by,
+                              later, others, spans_of, worn)
 
 FAR = 40
 
@@ -117,6 +117,14 @@ class TestSpans(Refusals, unittest.TestCase):
             moments = sorted(self.chance.sample(range(FAR), 12))
             want = [[moment for moment in moments if begin <= moment < end] for begin, end in some]
             self.assertEqual(grouped(moments, some), want)
+
+    def test_end_by_and_last_by(self):
+        for some in self.each(100):
+            for moment in range(FAR + 2):
+                ends = [end for begin, end in some if begin <= moment < end]
+                self.assertEqual(end_by(some, moment), ends[0] if ends else moment)
+                ahead = [at for begin, end in some for at in range(begin, end) if at <= moment]
+                self.assertEqual(last_by(some, moment), max(ahead) if ahead else None)
 
     def test_by_name(self):
         some = ((1, 3),)

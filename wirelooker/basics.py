@@ -11,6 +11,13 @@ def is_name(thing):
     return isinstance(thing, str) and 1 <= len(thing) <= 6 and all(["a" <= sign <= "z" for sign in thing])
 
 
+def word_of(thing):
+    """The word that a tuple begins with, None of a thing that is no such tuple."""
+    if isinstance(thing, tuple) and thing and isinstance(thing[0], str):
+        return thing[0]
+    return None
+
+
 def figures(word):
     """The number that a word writes in at most ten figures, no nought ahead of others; None if it writes none."""
     if not 1 <= len(word) <= 10 or (word[0] == "0" and word != "0"):
@@ -26,3 +33,8 @@ def number_of(levels):
     for level in levels:
         number = number * 2 + level
     return number
+
+
+def bits_of(number, many):
+    """The levels of a number's so many bits, the highest first, a list."""
+    return [number >> at & 1 for at in range(many)][::-1]

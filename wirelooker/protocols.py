@@ -1,6 +1,6 @@
 """Protocols: how words stand on lines."""
 
-from wirelooker.basics import figures, is_name, is_whole
+from wirelooker.basics import figures, is_name, is_whole, word_of
 from wirelooker.errors import NoProtocol, NoText
 
 # The things behind each protocol's word, by what they are.
@@ -38,11 +38,10 @@ def _fault_of(names, protocol):
 
 
 def _has_form(thing):
-    if not isinstance(thing, tuple) or not thing or not isinstance(thing[0], str):
+    fields = FORMS.get(word_of(thing))
+    if fields is None or len(thing) != len(fields) + 1:
         return False
-    if thing[0] not in FORMS or len(thing) != len(FORMS[thing[0]]) + 1:
-        return False
-    return all([_has_sort(field, part) for field, part in zip(FORMS[thing[0]], thing[1:])])
+    return all([_has_sort(field, part) for field, part in zip(fields, thing[1:])])
 
 
 def _has_sort(field, thing):
@@ -79,9 +78,14 @@ def read_protocol(text):
     return protocol
 
 
+def many_words(word):
+    """How many words the text of a protocol has that begins with this one; 0 where none begins so."""
+    return len(FORMS[word]) + 1 if word in FORMS else 0
+
+
 def protocol_of(words):
     """The protocol that these words, one at least, write, let by for some names; None where they write none."""
-    if words[0] not in FORMS or len(words) != len(FORMS[words[0]]) + 1:
+    if len(words) != many_words(words[0]):
         return None
     parts = [_part_of(field, word) for field, word in zip(FORMS[words[0]], words[1:])]
     if None in parts:

@@ -96,3 +96,29 @@ def grouped(moments, some):
             at += 1
         groups.append(group)
     return groups
+
+
+def end_by(some, moment):
+    """The end of the span that a moment is in, the moment itself where it is in none."""
+    span = _last_from(some, moment)
+    return moment if span is None else max(moment, span[1])
+
+
+def last_by(some, moment):
+    """The last moment of some that is at most this one, None without any."""
+    span = _last_from(some, moment)
+    return None if span is None else min(moment, span[1] - 1)
+
+
+def _last_from(some, moment):
+    """The last span that begins at a moment or ahead of it, None without any."""
+    low = 0
+    high = len(some)
+    # Papers ask this very often of the same spans, so they are halved, not gone through.
+    while low < high:
+        middle = (low + high) // 2
+        if some[middle][0] <= moment:
+            low = middle + 1
+        else:
+            high = middle
+    return some[low - 1] if low > 0 else None
