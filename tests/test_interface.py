@@ -21,7 +21,19 @@ INTERFACE = {
     "clocked": ("clocked_items(catch, protocol)",),
     "framed": ("framed_items(catch, protocol)",),
     "twowire": ("twowire_items(catch, protocol)",),
+    "reading": ("read_words(catch, protocol)", "item_holds(catch, protocol, item)"),
+    "making": ("made(protocol, groups, *, half=2)", "cut_out(catch, item)"),
+    "wishes": ("parts_of(wish)", "deep(wish)", "look_wish(names, wish)"),
+    "wishtexts": ("show_wish(wish)", "read_wish(text)"),
+    "meaning": ("when(catch, wish)", "is_so(catch, wish, moment)", "first_when(catch, wish, *, begin=0)"),
+    "papers": ("paper_holds(catch, wish, begin, end, paper, *, truth=True)",),
+    "reasons": ("reason(catch, wish, begin, end)", "caught(catch, wish, *, begin=0)"),
+    "watching": ("Watcher(names, wish)",),
+    "packets": ("check_of(kind, numbers)", "packets_in(items, mark, *, most=255, check='sum')",
+                "numbers_of(bodies, mark, *, most=255, check='sum')", "packed(numbers)", "hex_of(data)", "data_of(text)"),
 }
+VALUES = {"making": {"HALF": 2}, "packets": {"MOST": 255}}
+METHODS = {"watching": {"Watcher": ("feed(self, piece)", "when(self)", "first(self)", "copied(self)", "__len__(self)")}}
 
 
 class TestInterface(unittest.TestCase):
@@ -33,6 +45,19 @@ class TestInterface(unittest.TestCase):
                 told = getattr(module, name)
                 self.assertEqual(told.__module__, "wirelooker." + file)
                 self.assertEqual(name + str(inspect.signature(told)), signature)
+
+    def test_values(self):
+        for file, values in VALUES.items():
+            module = importlib.import_module("wirelooker." + file)
+            self.assertEqual({name: getattr(module, name) for name in values}, values)
+
+    def test_methods(self):
+        for file, classes in METHODS.items():
+            for kind, signatures in classes.items():
+                own = vars(getattr(importlib.import_module("wirelooker." + file), kind))
+                for signature in signatures:
+                    name = signature.split("(")[0]
+                    self.assertEqual(name + str(inspect.signature(own[name])), signature)
 
 
 if __name__ == "__main__":
