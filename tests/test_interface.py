@@ -31,6 +31,13 @@ INTERFACE = {
     "watching": ("Watcher(names, wish)",),
     "packets": ("check_of(kind, numbers)", "packets_in(items, mark, *, most=255, check='sum')",
                 "numbers_of(bodies, mark, *, most=255, check='sum')", "packed(numbers)", "hex_of(data)", "data_of(text)"),
+    "calls": ("calls_in(items)",),
+    "talks": ("talks_in(items)",),
+    "stacks": ("look_stack(names, stack)", "read_stack(catch, stack)", "settled(catch, stack)", "show_stack(stack)",
+               "stack_of(text)"),
+    "leads": ("places_of(reading, layer, number)", "owner_of(reading, layer, name, moment)",
+              "covering(reading, layer, moment)", "made_again(reading, stack, *, half=2)"),
+    "looking": ("fits_in(row, pattern)",),
 }
 VALUES = {"making": {"HALF": 2}, "packets": {"MOST": 255}}
 METHODS = {"watching": {"Watcher": ("feed(self, piece)", "when(self)", "first(self)", "copied(self)", "__len__(self)")}}

@@ -113,6 +113,7 @@ class TestLanguage(unittest.TestCase):
             bound = {node.name for node in ast.walk(tree) if isinstance(node, (ast.FunctionDef, ast.ClassDef))}
             bound |= {node.id for node in ast.walk(tree) if isinstance(node, ast.Name) and isinstance(node.ctx, ast.Store)}
             bound |= {node.arg for node in ast.walk(tree) if isinstance(node, ast.arg)}
+            bound |= {node.name for node in ast.walk(tree) if isinstance(node, ast.ExceptHandler) and node.name}
             imports = {part.name for node in ast.walk(tree) if isinstance(node, ast.ImportFrom) for part in node.names}
             self.assertFalse(bound & imports, name)
             self.assertFalse(bound & set(dir(builtins)), name)

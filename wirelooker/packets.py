@@ -1,8 +1,10 @@
 """Packets on words, each a mark, how many numbers, the numbers, and a check of them; and numbers as bytes."""
 
 from wirelooker.errors import NoNumber, NoText
+from wirelooker.layers import item_of_parts
 
 MOST = 255
+CHECKS = ("sum", "xor", "rest")
 SIGNS = "0123456789abcdef"
 
 
@@ -36,8 +38,7 @@ def packets_in(items, mark, *, most=MOST, check="sum"):
             at += 1
             continue
         kind, what, many = _try_from(items, at, most, check)
-        parts = tuple(range(at, at + many))
-        packets.append((kind, what, items[at][2], items[parts[-1]][3], parts))
+        packets.append(item_of_parts(items, kind, what, list(range(at, at + many))))
         at += many
     return tuple(packets)
 
