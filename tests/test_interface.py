@@ -38,9 +38,22 @@ INTERFACE = {
     "leads": ("places_of(reading, layer, number)", "owner_of(reading, layer, name, moment)",
               "covering(reading, layer, moment)", "made_again(reading, stack, *, half=2)"),
     "looking": ("fits_in(row, pattern)",),
+    "rows": ("held(one, other, *, unlike=1, lack=1, more=1)", "held_right(one, other, some, *, unlike=1, lack=1, more=1)"),
+    "shifts": ("unlike_at(one, other, *, shift=0)", "best_shift(one, other, *, most=1000)", "share(one, other)"),
+    "looker": ("Looker(names, *, most=40)",),
+    "alike": ("wishes_alike(names, one, other)", "soonest(names, wish)"),
+    "desk": ("Desk(*, most=40)",),
 }
-VALUES = {"making": {"HALF": 2}, "packets": {"MOST": 255}}
-METHODS = {"watching": {"Watcher": ("feed(self, piece)", "when(self)", "first(self)", "copied(self)", "__len__(self)")}}
+VALUES = {"making": {"HALF": 2}, "packets": {"MOST": 255}, "leads": {"HALF": 2}, "rows": {"UNLIKE": 1, "LACK": 1, "MORE": 1},
+          "shifts": {"FAR": 1000}, "looker": {"PIECES": 40}, "desk": {"PIECES": 40}}
+METHODS = {
+    "watching": {"Watcher": ("feed(self, piece)", "when(self)", "first(self)", "copied(self)", "__len__(self)")},
+    "looker": {"Looker": (
+        "feed(self, piece)", "watch(self, wish)", "stack(self, layers)", "drop(self, number)", "back(self)",
+        "several(self, deeds, *, whole=True)", "catch(self)", "when(self, number)", "first(self, number)", "read(self, number)",
+        "kept(self)", "log(self)", "is_open(self)", "__len__(self)", "__eq__(self, other)", "__repr__(self)")},
+    "desk": {"Desk": ("say(self, row)", "__len__(self)")},
+}
 
 
 class TestInterface(unittest.TestCase):

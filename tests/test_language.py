@@ -104,9 +104,10 @@ class TestLanguage(unittest.TestCase):
     def test_lengths(self):
         for name, node in self.nodes(ast.FunctionDef):
             if node.name == "__len__":
-                (last,) = [part for part in ast.walk(node) if isinstance(part, ast.Return)]
-                self.assertIs(last, node.body[-1])
-                self.assertEqual(last.value.func.id, "len", name)
+                told = [part for part in ast.walk(node) if isinstance(part, ast.Return)]
+                self.assertIn(node.body[-1], told)
+                for part in told:
+                    self.assertTrue(isinstance(part.value, ast.Constant) or part.value.func.id == "len", name)
 
     def test_names(self):
         for name, tree in self.trees.items():

@@ -47,18 +47,16 @@ def line_in(catch, name):
 
 def put_behind(one, other):
     """Two catches, one behind the other, refused with NoCatch where the second has other names."""
-    at = first_otherwise(names_of(one), names_of(other))
-    if at is not None:
-        raise NoCatch("name", at)
+    look_names(names_of(one), other)
     return tuple([(name, joined(line, more)) for (name, line), (_, more) in zip(one, other)])
 
 
-def first_otherwise(names, told):
-    """The first place at which a name is otherwise than told, lacks or is too many, None without any."""
+def look_names(names, catch):
+    """Refuses, with NoCatch, a catch that has other names than these, a list, or has them in another order."""
+    told = names_of(catch)
     for at in range(max(len(names), len(told))):
         if names[at:at + 1] != told[at:at + 1]:
-            return at
-    return None
+            raise NoCatch("name", at)
 
 
 def cut(catch, begin, end):

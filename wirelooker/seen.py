@@ -3,7 +3,7 @@
 from wirelooker.catches import line_in, moments_of
 from wirelooker.lines import falls, highs, rises, turned
 from wirelooker.reading import read_words
-from wirelooker.spans import between, spans_of
+from wirelooker.spans import between, singles, spans_of
 
 
 def seen(catch, wish):
@@ -18,23 +18,18 @@ def seen(catch, wish):
     if wish[0] == "low":
         return highs(turned(line))
     if wish[0] == "rise":
-        return _single(rises(line))
+        return singles(rises(line))
     if wish[0] == "fall":
-        return _single(falls(line))
+        return singles(falls(line))
     if wish[0] == "pulse":
         return _pulses(line, wish)
     return _edges(line, wish, moments_of(catch))
 
 
-def _single(moments):
-    """The spans of single moments."""
-    return spans_of([(moment, moment + 1) for moment in moments])
-
-
 def _reads(catch, wish):
     _, protocol, least, most = wish
     words = [item for item in read_words(catch, protocol) if item[0] == "word"]
-    return _single([places[-1][1] for _, number, _, _, places in words if least <= number <= most])
+    return singles([places[-1][1] for _, number, _, _, places in words if least <= number <= most])
 
 
 def _pulses(line, wish):
@@ -46,7 +41,7 @@ def _pulses(line, wish):
         if level == wanted and begin > 0 and least <= long <= most:
             found.append(begin + long)
         begin += long
-    return _single(found)
+    return singles(found)
 
 
 def _edges(line, wish, moments):

@@ -84,6 +84,11 @@ def first_of(some):
     return some[0][0]
 
 
+def singles(moments):
+    """The spans of single moments, a list or a tuple."""
+    return spans_of([(moment, moment + 1) for moment in moments])
+
+
 def grouped(moments, some):
     """For each of the spans a list of those of the moments, which rise, that are in it."""
     groups = []
