@@ -18,7 +18,7 @@ def unlike_at(one, other, *, shift=0):
 
 
 def best_shift(one, other, *, most=FAR):
-    """The shift, at most so far, at which two catches are unlike the least often, and how often; refused as above."""
+    """The shift, at most so far, at which two catches are unlike the least often, and how often; refused likewise."""
     look_names(names_of(one), other)
     bends = _bends_of(one, other)
     # Between two bends it grows or falls evenly, so the least is at a bend, at an end, or, where it is even, at 0.
